@@ -1,0 +1,1 @@
+"""Handpiles: cards laid on piles from a hand."""

@@ -1,0 +1,52 @@
+"""The examples of the document, word for word, and those of README.md."""
+
+import doctest
+import os
+import unittest
+
+HANDS = r"""
+>>> from handpiles.hands import card_keys, fronts, hands_met, least_hand, number_of_piles, piles_of, plain_way, sizes
+>>> row = [5, 2, 8, 1, 9, 3]
+>>> [plain_way(row, 2), piles_of(row, 2), fronts(row, 2), piles_of(row, 1), number_of_piles(row, 3), least_hand(row, 1), least_hand(row, 3), sizes(row)]
+[[(1, 0), (0, 0), (2, 0), (4, 0), (3, 1), (5, 1)], [[2, 5, 8, 9], [1, 3]], [4, 6], [[5], [2, 8], [1, 9], [3]], 2, 4, 2, [(1, 4), (2, 2), (4, 1)]]
+>>> [hands_met(row, 2), piles_of([], 3), sizes([]), piles_of([4, 4, 4], 2)]
+[[[0, 1], [0, 2], [2, 3], [3, 4], [3, 5], [5]], [], [(1, 0)], [[4, 4, 4]]]
+>>> card_keys(row, 2)
+[(0, 5), (0, 2), (0, 8), (1, 1), (0, 9), (1, 3)]
+"""
+
+WAYS = r"""
+>>> from handpiles.ways import count_ways, first_behind, first_fault, fronts_of, going_on, is_beginning
+>>> row = [5, 2, 8, 1, 9, 3]
+>>> told = [(0, 0), (2, 0), (1, 1), (4, 1), (3, 2), (5, 2)]
+>>> [first_fault(row, 2, told), first_fault(row, 2, told[:2]), first_fault(row, 2, [(0, 0), (1, 0)]), is_beginning(row, 2, told[:3]), fronts_of(row, 2, told), first_behind(row, 2, told)]
+[None, 2, 1, True, [2, 4, 6], 0]
+>>> [going_on(row, 2, [(0, 0)]), count_ways([2, 1], 1), count_ways([2, 1], 2), count_ways([], 1)]
+[[(0, 0), (2, 0), (3, 1), (1, 1), (5, 1), (4, 1)], [0, 0, 1], [0, 1, 2], [1]]
+"""
+
+README = os.path.join(os.path.dirname(os.path.dirname(os.path.abspath(__file__))), "README.md")
+
+
+class Examples(unittest.TestCase):
+
+    def check(self, text, name):
+        test = doctest.DocTestParser().get_doctest(text, {}, name, name, 0)
+        report = []
+        results = doctest.DocTestRunner(verbose=False).run(test, out=report.append)
+        self.assertGreater(results.attempted, 1)
+        self.assertEqual(results.failed, 0, "".join(report))
+
+    def test_hands(self):
+        self.check(HANDS, "hands")
+
+    def test_ways(self):
+        self.check(WAYS, "ways")
+
+    def test_readme(self):
+        with open(README, encoding="utf-8") as file:
+            self.check(file.read().replace("```", ""), "README.md")
+
+
+if __name__ == "__main__":
+    unittest.main()

@@ -61,6 +61,10 @@ class Laying:
         while self.held:
             self.lay_plainly()
 
+    def piles_begun(self):
+        """Return the number of the piles that have a card."""
+        return 0 if self.last is None else self.pile + 1
+
 
 def followed(row, hand, told):
     """Return the laying of the told entries ahead of the first one that is not allowed."""

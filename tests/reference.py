@@ -3,6 +3,8 @@
 Nothing here uses the package.
 """
 
+import copy
+import inspect
 from itertools import product
 
 GREAT = 10 ** 29 + 7  # 30 digits
@@ -75,6 +77,55 @@ def keys(row, hand):
     return found
 
 
+def keys_behind(row, hand, way):
+    """The ascending keys of the hand behind a beginning, by the least pile that is allowed."""
+    found = []
+    entries = next_entries(row, hand, way)
+    for index in hand_behind(row, hand, way):
+        found.append((min(pile for other, pile in entries if other == index), row[index]))
+    return sorted(found)
+
+
+def piles_met(row, sizes, downs):
+    """The plain piles with a hand of these sizes and piles that turn, and what was drawn by each card."""
+    rest = list(row)
+    held = []
+    piles = []
+    drawn = []
+    while rest or held:
+        size = sizes[min(len(drawn), len(sizes) - 1)]
+        while rest and len(held) < size:
+            held.append(rest.pop(0))
+        drawn.append(len(row) - len(rest))
+        card = plain_card(held, piles, downs)
+        if card is None:
+            piles.append([])
+            card = max(held) if turned(piles, downs) else min(held)
+        held.remove(card)
+        piles[-1].append(card)
+    return piles, drawn
+
+
+def turned(piles, downs):
+    """Tell if the present pile descends."""
+    return len(piles) <= len(downs) and downs[len(piles) - 1]
+
+
+def plain_card(held, piles, downs):
+    """The card that is laid plainly on the present pile, None if none fits."""
+    if not piles:
+        return None
+    last = piles[-1][-1]
+    if turned(piles, downs):
+        return max([card for card in held if card <= last], default=None)
+    return min([card for card in held if card >= last], default=None)
+
+
+def piles(row, hand):
+    """The piles of a row."""
+    return piles_met(row, [hand], [])[0]
+
+
 def beginnings(row, hand):
     """All beginnings of all ways, the shorter ones first."""
     found = [[]]
@@ -139,3 +190,43 @@ def lists_inside(value):
         for part in value:
             found.extend(lists_inside(part))
     return found
+
+
+def check_habits(case, function, **given):
+    """Check what each function promises whatever it answers, and return its answer.
+
+    It takes its arguments by position and by name, leaves them as they are, and
+    each list of an answer is new and in one place.
+    """
+    given = copy.deepcopy(given)
+    kept = copy.deepcopy(given)
+    case.assertEqual(list(inspect.signature(function).parameters), list(given))
+    found = function(*given.values())
+    answer = copy.deepcopy(found)
+    by_name = function(**given)
+    turned_round = function(**{name: given[name] for name in reversed(list(given))})
+    case.assertEqual([by_name, turned_round], [answer, answer])
+    case.assertEqual(given, kept)
+    lists = lists_inside([found, by_name, turned_round, list(given.values())])
+    case.assertEqual(len({id(one) for one in lists}), len(lists))
+    for change in lists_inside(found):
+        change.append("changed")
+    case.assertEqual([function(**given), by_name, turned_round], [answer, answer, answer])
+    case.assertEqual(given, kept)
+    for change in lists_inside(list(given.values())):
+        change.clear()
+    case.assertEqual([by_name, turned_round], [answer, answer])
+    return answer
+
+
+def check_refused(case, error, value, function, *args):
+    """Check that arguments are refused with an error that tells a value, and are left as they are."""
+    given = copy.deepcopy(args)
+    names = list(inspect.signature(function).parameters)
+    for ask in (lambda: function(*given), lambda: function(**dict(zip(names, given)))):
+        with case.assertRaises(ValueError) as caught:
+            ask()
+        case.assertIs(type(caught.exception), error)
+        case.assertEqual(caught.exception.value, value)
+        case.assertNotIsInstance(caught.exception.value, bool)
+        case.assertEqual(given, args)

@@ -25,6 +25,27 @@ WAYS = r"""
 [[(0, 0), (2, 0), (3, 1), (1, 1), (5, 1), (4, 1)], [0, 0, 1], [0, 1, 2], [1]]
 """
 
+LEADS = r"""
+>>> from handpiles.leads import is_ahead, keys_of, late_cards, piles_from
+>>> row = [5, 2, 8, 1, 9, 3]
+>>> [keys_of(row, 2, []), keys_of(row, 2, [(0, 0)]), keys_of(row, 2, [(1, 0)]), is_ahead(row, 2, [(1, 0)], [(0, 0)]), is_ahead(row, 2, [(0, 0)], [(1, 0)]), piles_from(row, 2, [(0, 0), (2, 1)]), late_cards(row, 2, [(0, 0), (2, 1)])]
+[[(0, 2), (0, 5)], [(0, 8), (1, 2)], [(0, 5), (0, 8)], True, False, 3, [2]]
+"""
+
+PAPERS = r"""
+>>> from handpiles.papers import first_gap, paper, shown
+>>> row = [3, 1, 2]
+>>> [shown(row, 1, [(0, []), (1, [0]), (1, [1])]), shown(row, 1, [(0, []), (0, []), (0, [])]), first_gap(row, 1, [(0, []), (1, [0]), (2, [1])]), first_gap(row, 2, [(0, []), (1, [0]), (0, [])]), shown(row, 2, paper(row, 2)), shown([], 2, [])]
+[2, 1, 2, 1, 1, 0]
+"""
+
+TABLES = r"""
+>>> from handpiles.tables import first_breach, laid_table, most_shown, values_of
+>>> row = [3, 1, 2, 1]
+>>> [values_of(row), laid_table(row, 1), laid_table(row, 2), first_breach(row, 1, [[0, 0, 1]]), first_breach(row, 1, [[0, 0, 0]]), first_breach(row, 1, [[0, 0]]), most_shown(row, 1, [[0, 0, 1]]), most_shown(row, 1, laid_table(row, 1))]
+[[1, 2, 3], [[0, 0, 1], [1, 1, 1], [2, 1, 1]], [[1, 1, 1], [2, 1, 1]], None, (0, 2), (0, 2), 2, 3]
+"""
+
 README = os.path.join(os.path.dirname(os.path.dirname(os.path.abspath(__file__))), "README.md")
 
 
@@ -42,6 +63,15 @@ class Examples(unittest.TestCase):
 
     def test_ways(self):
         self.check(WAYS, "ways")
+
+    def test_leads(self):
+        self.check(LEADS, "leads")
+
+    def test_papers(self):
+        self.check(PAPERS, "papers")
+
+    def test_tables(self):
+        self.check(TABLES, "tables")
 
     def test_readme(self):
         with open(README, encoding="utf-8") as file:

@@ -27,6 +27,23 @@ FUNCTIONS = {
         "going_on": ["row", "hand", "told"],
         "count_ways": ["row", "hand"],
     },
+    "leads": {
+        "keys_of": ["row", "hand", "told"],
+        "is_ahead": ["row", "hand", "one", "other"],
+        "piles_from": ["row", "hand", "told"],
+        "late_cards": ["row", "hand", "told"],
+    },
+    "papers": {
+        "paper": ["row", "hand"],
+        "first_gap": ["row", "hand", "told"],
+        "shown": ["row", "hand", "told"],
+    },
+    "tables": {
+        "values_of": ["row"],
+        "laid_table": ["row", "hand"],
+        "first_breach": ["row", "hand", "told"],
+        "most_shown": ["row", "hand", "told"],
+    },
 }
 ERRORS = ["PileError", "InvalidHand", "InvalidWay", "InvalidNumber", "InvalidIndex", "InvalidPiles",
           "NotFitting", "HandFull", "NothingToUndo", "Unreadable"]

@@ -1,7 +1,7 @@
 """What the plain way does with a row, for each size of the hand."""
 
 from handpiles.errors import InvalidNumber
-from handpiles.laying import Laying, check_hand, fronts_in
+from handpiles.laying import Laying, check_hand, fronts_in, piles_in
 
 
 def plain_way(row, hand):
@@ -13,12 +13,7 @@ def plain_way(row, hand):
 
 def piles_of(row, hand):
     """Return the piles of a row, each as the list of its cards as they were laid."""
-    piles = []
-    for index, pile in plain_way(row, hand):
-        if pile == len(piles):
-            piles.append([])
-        piles[pile].append(row[index])
-    return piles
+    return piles_in(row, plain_way(row, hand))
 
 
 def fronts(row, hand):

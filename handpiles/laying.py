@@ -9,22 +9,42 @@ def check_hand(hand):
         raise InvalidHand(hand)
 
 
+def check_hands(hands):
+    """Refuse the first size of a hand in a list that holds no card."""
+    for hand in hands:
+        check_hand(hand)
+
+
 class Laying:
     """A beginning of a way, with the hand behind it."""
 
     def __init__(self, row, hand):
         check_hand(hand)
         self.row = row
-        self.drawn = min(hand, len(row))
+        self.room = hand
+        self.drawn = 0
         # Cards are drawn in order, so these indexes always ascend.
-        self.held = list(range(self.drawn))
+        self.held = []
         self.way = []
         self.last = None
         self.pile = 0
+        self.draw()
+
+    def draw(self):
+        """Draw cards until the hand is full or none is left."""
+        while len(self.held) < self.room and self.drawn < len(self.row):
+            self.held.append(self.drawn)
+            self.drawn += 1
+
+    def rank(self, card, pile):
+        """Return the number by which the cards of a pile ascend; a pile may turn it round."""
+        return card
 
     def fits(self, index):
         """Tell if a card of the hand may be laid on the present pile."""
-        return self.last is None or self.row[index] >= self.last
+        if self.last is None:
+            return True
+        return self.rank(self.row[index], self.pile) >= self.rank(self.last, self.pile)
 
     def allows(self, index, pile):
         """Tell if an entry may come next, whatever its integers are."""
@@ -35,26 +55,24 @@ class Laying:
         return self.last is not None and pile == self.pile + 1
 
     def lay(self, index, pile):
-        """Lay a card of the hand on a pile, and draw the next card."""
+        """Lay a card of the hand on a pile, and draw what the hand has room for."""
         self.held.remove(index)
         self.way.append((index, pile))
         self.last = self.row[index]
         self.pile = pile
-        if self.drawn < len(self.row):
-            self.held.append(self.drawn)
-            self.drawn += 1
+        self.draw()
 
     def lay_plainly(self):
         """Lay the card that the plain way lays, of a hand with cards."""
         fitting = [index for index in self.held if self.fits(index)]
         if fitting:
-            self.lay(self.least(fitting), self.pile)
+            self.lay(self.least(fitting, self.pile), self.pile)
         else:
-            self.lay(self.least(self.held), self.pile + 1)
+            self.lay(self.least(self.held, self.pile + 1), self.pile + 1)
 
-    def least(self, indexes):
-        """Return the index of the least card, of equal ones the least index."""
-        return min([(self.row[index], index) for index in indexes])[1]
+    def least(self, indexes, pile):
+        """Return the index of the least card for a pile, of equal ones the least index."""
+        return min([(self.rank(self.row[index], pile), index) for index in indexes])[1]
 
     def go_on(self):
         """Lay all cards that are left plainly."""
@@ -92,3 +110,13 @@ def fronts_in(way):
             found.append(before)
         found[pile] = before + 1
     return found
+
+
+def piles_in(row, way):
+    """Return the piles of a way of a row, each as the list of its cards as they were laid."""
+    piles = []
+    for index, pile in way:
+        if pile == len(piles):
+            piles.append([])
+        piles[pile].append(row[index])
+    return piles

@@ -46,6 +46,34 @@ TABLES = r"""
 [[1, 2, 3], [[0, 0, 1], [1, 1, 1], [2, 1, 1]], [[1, 1, 1], [2, 1, 1]], None, (0, 2), (0, 2), 2, 3]
 """
 
+PASSES = r"""
+>>> from handpiles.passes import at_rest, chained, greatest_rest, needed, one_instead, pass_once
+>>> row = [5, 2, 8, 1, 9, 3]
+>>> [pass_once(row, 2), at_rest(row, 1), at_rest(row, 2), greatest_rest(row), greatest_rest([2, 5, 8, 9, 1, 3]), chained(row, [2, 4]), chained(row, [4, 2]), needed([3, 2, 3, 4]), one_instead([2, 4])]
+[[2, 5, 8, 9, 1, 3], True, False, 1, 4, [2, 5, 8, 9, 1, 3], [1, 2, 3, 5, 8, 9], [3, 4], 5]
+"""
+
+CHANGES = r"""
+>>> from handpiles.changes import drawn_by, is_never_less, latest_change, piles_by
+>>> row = [5, 2, 8, 1, 9, 3]
+>>> [piles_by(row, [1, 3]), piles_by(row, [3, 1]), drawn_by(row, [3, 1]), latest_change(row, 1, 4, 2), latest_change(row, 1, 4, 1), latest_change(row, 1, 2, 1), is_never_less(row, [1, 3], [2]), is_never_less(row, [3], [1, 3])]
+[[[5, 8, 9], [1, 2, 3]], [[2, 5, 8], [1, 9], [3]], [3, 3, 3, 4, 5, 6], 1, 0, None, False, True]
+"""
+
+TURNS = r"""
+>>> from handpiles.turns import by_turns, least_turned, piles_turned
+>>> row = [5, 2, 8, 1, 9, 3]
+>>> [piles_turned(row, 2, [True]), least_turned(row, 1), least_turned(row, 2), least_turned([], 3), by_turns(row, 1)]
+[[[5, 2, 1], [8, 9], [3]], (3, [True, True, True]), (2, [False, False]), (0, []), [[5], [2], [8], [1], [9], [3]]]
+"""
+
+ROUNDS = r"""
+>>> from handpiles.rounds import comes_round, least_steady, long_run, pile_at, piles_after
+>>> row = [3, 1, 2]
+>>> [piles_after(row, 1, 4), piles_after(row, 2, 10 ** 30), comes_round(row, 1), comes_round(row, 2), long_run(row, 2), least_steady(row, 1, 1), least_steady(row, 1, 2), pile_at(row, 2, 5, 1), piles_after([], 2, 9), pile_at([4, 4], 1, 10 ** 30, 0)]
+[5, 1000000000000000000000000000000, (1, 1, 1), (2, 1, 1), (1, 1), 1, 3, (3, 1, 3), 0, (2000000000000000000000000000000, 4, 4)]
+"""
+
 README = os.path.join(os.path.dirname(os.path.dirname(os.path.abspath(__file__))), "README.md")
 
 
@@ -72,6 +100,18 @@ class Examples(unittest.TestCase):
 
     def test_tables(self):
         self.check(TABLES, "tables")
+
+    def test_passes(self):
+        self.check(PASSES, "passes")
+
+    def test_changes(self):
+        self.check(CHANGES, "changes")
+
+    def test_turns(self):
+        self.check(TURNS, "turns")
+
+    def test_rounds(self):
+        self.check(ROUNDS, "rounds")
 
     def test_readme(self):
         with open(README, encoding="utf-8") as file:

@@ -44,6 +44,32 @@ FUNCTIONS = {
         "first_breach": ["row", "hand", "told"],
         "most_shown": ["row", "hand", "told"],
     },
+    "passes": {
+        "pass_once": ["row", "hand"],
+        "at_rest": ["row", "hand"],
+        "greatest_rest": ["row"],
+        "chained": ["row", "hands"],
+        "needed": ["hands"],
+        "one_instead": ["hands"],
+    },
+    "changes": {
+        "piles_by": ["row", "sizes"],
+        "drawn_by": ["row", "sizes"],
+        "latest_change": ["row", "small", "great", "most"],
+        "is_never_less": ["row", "one", "other"],
+    },
+    "turns": {
+        "piles_turned": ["row", "hand", "downs"],
+        "least_turned": ["row", "hand"],
+        "by_turns": ["row", "hand"],
+    },
+    "rounds": {
+        "piles_after": ["row", "hand", "rounds"],
+        "comes_round": ["row", "hand"],
+        "long_run": ["row", "hand"],
+        "least_steady": ["row", "piles", "rounds"],
+        "pile_at": ["row", "hand", "rounds", "index"],
+    },
 }
 ERRORS = ["PileError", "InvalidHand", "InvalidWay", "InvalidNumber", "InvalidIndex", "InvalidPiles",
           "NotFitting", "HandFull", "NothingToUndo", "Unreadable"]

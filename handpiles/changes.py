@@ -1,7 +1,7 @@
 """Hands that change their size while a row is laid."""
 
 from handpiles.errors import InvalidHand, InvalidNumber
-from handpiles.laying import Laying, check_hand, check_hands, piles_in
+from handpiles.laying import Laying, check_hand, check_hands, check_number, piles_in
 
 
 def piles_by(row, sizes):
@@ -22,8 +22,7 @@ def latest_change(row, small, great, most):
     # A size that holds no card is less than the small one, too.
     if great < small:
         raise InvalidHand(great)
-    if most < 1:
-        raise InvalidNumber(most)
+    check_number(most, 1)
     for many in reversed(range(len(row) + 1)):
         laying, _ = _laid_by(row, [small] * many + [great])
         if laying.piles_begun() <= most:

@@ -1,7 +1,6 @@
 """What the plain way does with a row, for each size of the hand."""
 
-from handpiles.errors import InvalidNumber
-from handpiles.laying import Laying, check_hand, fronts_in, piles_in
+from handpiles.laying import Laying, check_hand, check_number, fronts_in, piles_in
 
 
 def plain_way(row, hand):
@@ -52,8 +51,7 @@ def number_of_piles(row, hand):
 
 def least_hand(row, most):
     """Return the least size of a hand with which a row has at most so many piles."""
-    if most < 1:
-        raise InvalidNumber(most)
+    check_number(most, 1)
     size = 1
     # A hand for the whole row makes one pile, so this ends.
     while number_of_piles(row, size) > most:

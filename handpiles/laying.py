@@ -1,6 +1,6 @@
 """The rules of laying, which the other files share."""
 
-from handpiles.errors import InvalidHand, InvalidWay
+from handpiles.errors import InvalidHand, InvalidNumber, InvalidWay
 
 
 def check_hand(hand):
@@ -13,6 +13,12 @@ def check_hands(hands):
     """Refuse the first size of a hand in a list that holds no card."""
     for hand in hands:
         check_hand(hand)
+
+
+def check_number(number, least):
+    """Refuse a number that is less than the least one."""
+    if number < least:
+        raise InvalidNumber(number)
 
 
 class Laying:

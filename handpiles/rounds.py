@@ -2,9 +2,9 @@
 
 from math import gcd
 
-from handpiles.errors import InvalidIndex, InvalidNumber
+from handpiles.errors import InvalidIndex
 from handpiles.hands import number_of_piles, piles_of
-from handpiles.laying import Laying, check_hand
+from handpiles.laying import Laying, check_hand, check_number
 
 GREATEST_STEADY = 6
 
@@ -12,7 +12,7 @@ GREATEST_STEADY = 6
 def piles_after(row, hand, rounds):
     """Return the number of the piles of a row that is repeated so many times."""
     check_hand(hand)
-    _check_number(rounds, 0)
+    check_number(rounds, 0)
     if not row:
         return 0
     first, every, piles, _ = _recurrence(row, hand)
@@ -39,8 +39,8 @@ def long_run(row, hand):
 
 def least_steady(row, piles, rounds):
     """Return the least size of a hand whose long run is at most a fraction, or None."""
-    _check_number(piles, 0)
-    _check_number(rounds, 1)
+    check_number(piles, 0)
+    check_number(rounds, 1)
     for hand in range(1, GREATEST_STEADY + 1):
         top, bottom = long_run(row, hand)
         if top * rounds <= piles * bottom:
@@ -99,9 +99,3 @@ def _spare(row, hand, rounds, first, every):
     """
     left = first + 2 * every + (hand + len(row) - 1) // len(row)
     return max(0, (rounds - left) // every)
-
-
-def _check_number(number, least):
-    """Refuse a number that is less than the least one."""
-    if number < least:
-        raise InvalidNumber(number)

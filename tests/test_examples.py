@@ -74,6 +74,28 @@ ROUNDS = r"""
 [5, 1000000000000000000000000000000, (1, 1, 1), (2, 1, 1), (1, 1), 1, 3, (3, 1, 3), 0, (2000000000000000000000000000000, 4, 4)]
 """
 
+ORDERS = r"""
+>>> from handpiles.orders import are_lengths, counts, first_order, lengths_counted, mean, row_of_lengths
+>>> [counts(3, 1), counts(3, 2), counts(0, 5), mean(3, 1), mean(3, 2), first_order(3, 2, 2), first_order(3, 2, 3), lengths_counted(3, 2), are_lengths([1, 2], 2), row_of_lengths([2, 3, 1], 2), row_of_lengths([], 1)]
+[[0, 1, 4, 1], [0, 4, 2, 0], [1], (2, 1), (4, 3), [1, 2, 0], None, [([2, 1], 2), ([3], 4)], False, [4, 5, 1, 2, 3, 0], []]
+"""
+
+SOURCES = r"""
+>>> from handpiles.sources import count_rows, first_row, greatest_source_hand, index_of, places, row_at, rows_for, sizes_for, windows
+>>> told = [[2, 5, 8, 9], [1, 3]]
+>>> [windows(told, 2), count_rows(told, 2), first_row(told, 2), rows_for([[1, 2], [0]], 2), greatest_source_hand(told), count_rows([[1], [0]], 2), rows_for([], 1)]
+[[(0, 1), (0, 2), (0, 3), (0, 4), (2, 5), (3, 5)], 26, [2, 5, 1, 8, 9, 3], [[1, 2, 0], [2, 1, 0]], 4, 0, [[]]]
+>>> [row_at([[1, 2], [0]], 2, 1), index_of([[1, 2], [0]], 2, [2, 1, 0]), index_of([[1, 2], [0]], 2, [0, 1, 2]), places([[1, 2], [0]], 2), sizes_for([5, 2, 8, 1, 9, 3], told), sizes_for([2, 5, 8, 9, 1, 3], told)]
+[[2, 1, 0], 1, None, [[0, 1], [0, 1], [2]], (2, 3), (1, 4)]
+"""
+
+EDITS = r"""
+>>> from handpiles.edits import best_exchange, best_in, best_out, first_outs, least_outs, piles_with, piles_without
+>>> row = [2, 1, 3, 0]
+>>> [piles_without(row, 1), best_out(row, 1), piles_with(row, 1, 4), best_in(row, 1, 4), best_exchange(row, 1), best_exchange([0, 1], 1), least_outs(row, 1, 1), first_outs(row, 1, 1), best_out([], 1)]
+[[2, 2, 3, 2], 0, [4, 3, 4, 3, 3], 1, 0, None, 2, [0, 3], None]
+"""
+
 README = os.path.join(os.path.dirname(os.path.dirname(os.path.abspath(__file__))), "README.md")
 
 
@@ -112,6 +134,15 @@ class Examples(unittest.TestCase):
 
     def test_rounds(self):
         self.check(ROUNDS, "rounds")
+
+    def test_orders(self):
+        self.check(ORDERS, "orders")
+
+    def test_sources(self):
+        self.check(SOURCES, "sources")
+
+    def test_edits(self):
+        self.check(EDITS, "edits")
 
     def test_readme(self):
         with open(README, encoding="utf-8") as file:

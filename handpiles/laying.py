@@ -85,6 +85,15 @@ class Laying:
         while self.held:
             self.lay_plainly()
 
+    def mark(self):
+        """Return what go_back needs, to be used once."""
+        return self.room, self.drawn, list(self.held), len(self.way), self.last, self.pile
+
+    def go_back(self, mark):
+        """Bring everything back to where it was when it was marked."""
+        self.room, self.drawn, self.held, laid, self.last, self.pile = mark
+        del self.way[laid:]
+
     def piles_begun(self):
         """Return the number of the piles that have a card."""
         return 0 if self.last is None else self.pile + 1

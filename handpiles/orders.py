@@ -42,7 +42,7 @@ def lengths_counted(number, hand):
     for order in permutations(range(number)):
         lengths = tuple([len(pile) for pile in piles_of(order, hand)])
         found[lengths] = found.get(lengths, 0) + 1
-    return [(list(lengths), orders) for lengths, orders in sorted(found.items())]
+    return [(list(lengths), found[lengths]) for lengths in sorted(found)]
 
 
 def are_lengths(lengths, hand):

@@ -96,6 +96,31 @@ EDITS = r"""
 [[2, 2, 3, 2], 0, [4, 3, 4, 3, 3], 1, 0, None, 2, [0, 3], None]
 """
 
+MERGES = r"""
+>>> from handpiles.merges import best_plan, depth, least_moves, least_neighbours, moves_of, sort_moves
+>>> [least_moves([4, 2], 2), least_moves([4, 2, 1], 2), least_moves([4, 2, 1], 3), least_moves([5], 2), least_moves([1, 1, 1, 1], 3), sort_moves([5, 2, 8, 1, 9, 3], 2, 2), depth(9, 3), depth(10, 3), depth(1, 2), least_neighbours([1, 9, 1]), least_moves([1, 9, 1], 2)]
+[6, 10, 7, 0, 6, 12, 2, 3, 0, 21, 13]
+>>> [moves_of([4, 2, 1], 2, [[1, 2], [0, 3]]), moves_of([4, 2, 1], 2, [[0, 1], [3, 2]]), moves_of([4, 2, 1], 2, [[0, 1, 2]]), moves_of([4, 2], 2, []), moves_of([4, 2, 1], 2, best_plan([4, 2, 1], 2))]
+[10, 13, None, None, 10]
+"""
+
+LIVE = r"""
+>>> from handpiles.live import FreeTable, Table
+>>> table = Table(2)
+>>> [table(5), table(2), table(8), table(1), table.hand(), table.finish(), table.piles(), len(table), table.undo(), table.hand()]
+[None, None, (2, 0), (5, 0), [1, 8], [(8, 0), (1, 1)], [[2, 5, 8], [1]], 4, None, [1, 8]]
+>>> free = FreeTable(2)
+>>> [free(5), free(2), free.lay(5, False), free.lay(2, True), free.laid(), free == Table(2), free.size]
+[None, None, 0, 1, [(5, 0), (2, 1)], False, 2]
+"""
+
+READINGS = r"""
+>>> from handpiles.readings import read_piles, read_row, read_way
+>>> from handpiles.texts import show_piles, show_row, show_way
+>>> [show_row([5, -2, 8]), read_row("-"), show_piles([[2, 5], [1]]), read_piles("2 5 | 1"), show_way([(1, 0), (0, 1)]), read_way("1:0 0:1"), read_row("-7")]
+['5 -2 8', [], '2 5 | 1', [[2, 5], [1]], '1:0 0:1', [(1, 0), (0, 1)], [-7]]
+"""
+
 README = os.path.join(os.path.dirname(os.path.dirname(os.path.abspath(__file__))), "README.md")
 
 
@@ -143,6 +168,15 @@ class Examples(unittest.TestCase):
 
     def test_edits(self):
         self.check(EDITS, "edits")
+
+    def test_merges(self):
+        self.check(MERGES, "merges")
+
+    def test_live(self):
+        self.check(LIVE, "live")
+
+    def test_readings(self):
+        self.check(READINGS, "readings")
 
     def test_readme(self):
         with open(README, encoding="utf-8") as file:

@@ -98,6 +98,24 @@ FUNCTIONS = {
         "least_outs": ["row", "hand", "most"],
         "first_outs": ["row", "hand", "most"],
     },
+    "merges": {
+        "moves_of": ["lengths", "ways", "told"],
+        "least_moves": ["lengths", "ways"],
+        "best_plan": ["lengths", "ways"],
+        "depth": ["number", "ways"],
+        "least_neighbours": ["lengths"],
+        "sort_moves": ["row", "hand", "ways"],
+    },
+    "texts": {
+        "show_row": ["row"],
+        "show_piles": ["piles"],
+        "show_way": ["way"],
+    },
+    "readings": {
+        "read_row": ["text"],
+        "read_piles": ["text"],
+        "read_way": ["text"],
+    },
 }
 ERRORS = ["PileError", "InvalidHand", "InvalidWay", "InvalidNumber", "InvalidIndex", "InvalidPiles",
           "NotFitting", "HandFull", "NothingToUndo", "Unreadable"]
@@ -126,6 +144,15 @@ class Package(unittest.TestCase):
 
     def test_error_classes_are_defined_in_their_file(self):
         self.assertEqual(sorted(defined("errors.py", ast.ClassDef)), sorted(ERRORS))
+
+    def test_live_tables_are_defined_in_their_file(self):
+        self.assertEqual(sorted(defined("live.py", ast.ClassDef)), ["FreeTable", "Table"])
+
+    def test_no_generator_expressions_where_a_class_compares(self):
+        for name in os.listdir(PACKAGE):
+            if name.endswith(".py"):
+                for node in ast.walk(ast.parse(text_of(name))):
+                    self.assertNotIsInstance(node, (ast.GeneratorExp, ast.Yield, ast.Try), name)
 
     def test_the_folder_holds_python_files_alone(self):
         names = [name for name in os.listdir(PACKAGE) if name != "__pycache__"]
